@@ -1,0 +1,1 @@
+"""Placeworths: what looks, stops, bids and turns of chance are worth."""

@@ -1,0 +1,89 @@
+"""The examples of the document, as they stand there: one after the other, with the names of those ahead."""
+
+import unittest
+
+EXAMPLES = (
+    ("draws.py", r"""
+>>> from placeworths.draws import capped, chance_above, chance_of, draw_in, draw_text, excess, greatest_of, mean, mixed, moved, scaled, summed
+>>> coin, sure = (((0, 1), (1, 2)), ((4, 1), (1, 2))), (((2, 1), (1, 1)),)
+>>> [mean(coin), capped(coin, (1, 1)), excess(coin, (1, 1)), chance_above(coin, (0, 1)), chance_of(coin, (4, 1)), chance_of(coin, (1, 1))]
+[(2, 1), (1, 2), (3, 2), (1, 2), (1, 2), (0, 1)]
+>>> [summed(coin, sure), greatest_of((coin, coin)), mixed((coin, sure), ((1, 3), (2, 3))), moved(sure, (-1, 2)), scaled(coin, (-1, 4)), scaled(coin, (0, 1))]
+[(((2, 1), (1, 2)), ((6, 1), (1, 2))), (((0, 1), (1, 4)), ((4, 1), (3, 4))), (((0, 1), (1, 6)), ((2, 1), (2, 3)), ((4, 1), (1, 6))), (((3, 2), (1, 1)),), (((-1, 1), (1, 2)), ((0, 1), (1, 2))), (((0, 1), (1, 1)),)]
+>>> [draw_text(coin), draw_in("2/1:1/1") == sure]
+['0/1:1/2 4/1:1/2', True]
+"""),
+    ("orders.py", r"""
+>>> from placeworths.orders import bold, bold_at, cautious, cautious_at, less_at, lift, never_less, sinking, spread
+>>> [never_less(coin, sure), cautious(coin, sure), bold(coin, sure), cautious(sure, coin), bold(sure, coin), less_at(coin, sure), cautious_at(coin, sure), bold_at(sure, coin)]
+[False, False, True, True, False, (0, 1), (2, 1), (2, 1)]
+>>> [spread(coin, sure), sinking(sure, coin), lift(coin, sure), lift(moved(coin, (1, 1)), coin)]
+[(((2, 1), (0, 1), (1, 2)), ((2, 1), (4, 1), (1, 2))), (((2, 1), (0, 1), (1, 2)), ((2, 1), (4, 1), (1, 2))), None, (((0, 1), (1, 1), (1, 2)), ((4, 1), (5, 1), (1, 2)))]
+"""),
+    ("stops.py", r"""
+>>> from placeworths.stops import bar_worth, bars, best_orders, half_bar, picks, prophet, recall_worth, should_take, worths_from
+>>> third = (((0, 1), (2, 3)), ((9, 1), (1, 3)))
+>>> [worths_from((coin, third), (0, 1)), bars((coin, third), (0, 1)), should_take((coin, third), (0, 1), 0, (3, 1)), bar_worth((coin, third), (0, 1), (4, 1)), prophet((coin, third), (0, 1))]
+[((7, 2), (3, 1), (0, 1)), ((3, 1), (0, 1)), True, (7, 2), (13, 3)]
+>>> [half_bar((sure,)), half_bar((coin, third)), best_orders((coin, third), (0, 1)), recall_worth((coin, third), (0, 1), (1, 1)), picks((coin, third), 2), picks((coin, coin), 1)]
+[(1, 1), (30, 11), ((13, 3), ((1, 0),)), (7, 3), (5, 1), (3, 1)]
+"""),
+    ("looks.py", r"""
+>>> from placeworths.looks import best_order, better_box, box_gain, company_worth, floor_against, opened_chance, paid_mean, strike, worth_in
+>>> wide, near = ((((0, 1), (1, 2)), ((10, 1), (1, 2))), (1, 1)), ((((4, 1), (1, 2)), ((8, 1), (1, 2))), (1, 1))
+>>> [strike(wide), strike(near), company_worth((wide, near), (0, 1)), best_order((near, wide)), worth_in((wide, near), (0, 1), (0, 1)), company_worth((wide,), (9, 1)), company_worth((), (2, 1))]
+[(8, 1), (6, 1), (13, 2), (1, 0), (13, 2), (9, 1), (2, 1)]
+>>> [opened_chance((wide, near), (0, 1), 1), paid_mean((wide, near), (0, 1)), box_gain((wide, near), (0, 1), 1), better_box(wide, near), floor_against(near, near), strike(((((5, 1), (1, 1)),), (0, 1)))]
+[(1, 2), (3, 2), (5, 2), False, None, (5, 1)]
+"""),
+    ("webs.py", r"""
+>>> from placeworths.webs import Web, greatest_trap
+>>> street = Web.read("a ours b:1/2 x:0/1\nb chance a:1/2 y:1/2\nx end 1/1\ny end 3/1")
+>>> duel = Web((("a", "coin", ("b", "x")), ("b", "coin", ("a", "y")), ("x", "end", (0, 1)), ("y", "end", (1, 1))))
+>>> [street.rows[0], street.places, street.ends, street.is_ending, street.is_coins, duel.is_ending, duel.is_coins, duel.text]
+[('a', 'ours', (('b', (1, 2)), ('x', (0, 1)))), ('a', 'b', 'x', 'y'), ('x', 'y'), True, False, False, True, 'a coin b x\nb coin a y\nx end 0/1\ny end 1/1']
+>>> [greatest_trap((("a", "ours", (("a", (0, 1)), ("x", (0, 1)))), ("x", "end", (0, 1)))), greatest_trap(duel.rows), greatest_trap(street.rows), street.arrows("b"), street.number("y"), street.with_number("x", (5, 2)).number("x")]
+[('a',), ('a', 'b'), (), ('a', 'y'), (3, 1), (5, 2)]
+"""),
+)
+
+
+def steps(text):
+    """The steps of an example: pairs of what is done and the line that is told, None where nothing is."""
+    told = []
+    for line in text.strip().split("\n"):
+        if line.startswith(">>> "):
+            told.append((line[4:], None))
+        else:
+            told[-1] = (told[-1][0], line)
+    return told
+
+
+class Examples(unittest.TestCase):
+    def check_step(self, done, line, names):
+        """Does one step and checks the line that it tells, a value or what it raises."""
+        if line is None:
+            exec(done, names)
+        elif line.startswith("raises "):
+            with self.assertRaises(Exception) as caught:
+                eval(done, names)
+            found = caught.exception
+            told = ", ".join(f"{name}={value!r}" for name, value in vars(found).items())
+            self.assertEqual(f"raises {type(found).__name__}({told})", line)
+        else:
+            self.assertEqual(repr(eval(done, names)), line)
+
+    def test_each_example_tells_what_the_document_shows(self):
+        names = {}
+        for section, text in EXAMPLES:
+            for done, line in steps(text):
+                with self.subTest(section=section, done=done):
+                    self.check_step(done, line, names)
+
+    def test_no_section_is_without_steps(self):
+        for section, text in EXAMPLES:
+            self.assertTrue([line for _, line in steps(text) if line is not None], section)
+
+
+if __name__ == "__main__":
+    unittest.main()

@@ -1,0 +1,80 @@
+"""The names, places and parameters that the document's interface lists."""
+
+import importlib
+import inspect
+import unittest
+
+FUNCTIONS = {
+    "draws": {
+        "mean": "draw", "capped": "draw number", "excess": "draw number", "chance_above": "draw number",
+        "chance_of": "draw number", "summed": "draw other", "greatest_of": "draws", "mixed": "draws chances",
+        "moved": "draw number", "scaled": "draw number", "draw_text": "draw", "draw_in": "text",
+    },
+    "orders": {
+        "never_less": "draw other", "cautious": "draw other", "bold": "draw other", "less_at": "draw other",
+        "cautious_at": "draw other", "bold_at": "draw other", "lift": "draw other", "spread": "draw other",
+        "sinking": "draw other",
+    },
+    "stops": {
+        "worths_from": "row rest", "bars": "row rest", "should_take": "row rest index number",
+        "bar_worth": "row rest bar", "prophet": "row rest", "half_bar": "row", "best_orders": "row rest",
+        "recall_worth": "row rest price", "picks": "row times",
+    },
+    "looks": {
+        "strike": "box", "capped_draw": "box", "company_worth": "company floor", "best_order": "company",
+        "worth_in": "company order floor", "box_gain": "company floor index", "opened_chance": "company floor index",
+        "paid_mean": "company floor", "better_box": "box other", "floor_against": "box other",
+    },
+    "webs": {"greatest_trap": "rows"},
+}
+CLASSES = {
+    "webs": {
+        "Web": {
+            "__init__": "self rows", "kind": "self place", "arrows": "self place", "number": "self place",
+            "with_number": "self place number", "__eq__": "self other", "__str__": "self",
+        },
+    },
+}
+PROPERTIES = {"webs": {"Web": "rows places ends text is_ending is_coins"}}
+
+
+class Interface(unittest.TestCase):
+    def check_parameters(self, function, words):
+        parameters = inspect.signature(function).parameters
+        self.assertEqual(list(parameters), words.split(), function.__qualname__)
+        for parameter in parameters.values():
+            self.assertIs(parameter.kind, inspect.Parameter.POSITIONAL_OR_KEYWORD)
+            self.assertIs(parameter.default, inspect.Parameter.empty)
+
+    def test_each_function_is_defined_in_its_file_with_its_parameters(self):
+        for name, functions in FUNCTIONS.items():
+            module = importlib.import_module(f"placeworths.{name}")
+            for word, parameters in functions.items():
+                function = getattr(module, word)
+                self.assertEqual(function.__module__, f"placeworths.{name}", word)
+                self.check_parameters(function, parameters)
+
+    def test_each_method_is_defined_in_its_class_with_its_parameters(self):
+        for name, classes in CLASSES.items():
+            module = importlib.import_module(f"placeworths.{name}")
+            for word, methods in classes.items():
+                found = getattr(module, word)
+                self.assertEqual(found.__module__, f"placeworths.{name}")
+                for method, parameters in methods.items():
+                    self.check_parameters(vars(found)[method], parameters)
+
+    def test_each_property_is_one_of_its_class(self):
+        for name, classes in PROPERTIES.items():
+            module = importlib.import_module(f"placeworths.{name}")
+            for word, properties in classes.items():
+                for one in properties.split():
+                    self.assertIsInstance(vars(getattr(module, word))[one], property)
+
+    def test_a_web_can_be_read_off_its_class(self):
+        web = importlib.import_module("placeworths.webs").Web
+        self.assertIn("read", vars(web))
+        self.check_parameters(web.read, "text")
+
+
+if __name__ == "__main__":
+    unittest.main()
