@@ -65,9 +65,11 @@ def best_orders(row, rest):
     check_number(rest)
     if len(row) > MOST_ORDERED:
         raise TooMany(MOST_ORDERED)
-    worths = {order: told_worths([row[index] for index in order], rest)[0] for order in orders_of(len(row))}
+    worths = {(): rest}
+    for _ in row:
+        worths = worths_one_ahead(row, worths)
     best = highest(list(worths.values()))
-    return (best, tuple([order for order in worths if worths[order] == best]))
+    return (best, tuple(sorted([order for order in worths if worths[order] == best])))
 
 
 def recall_worth(row, rest, price):
@@ -99,9 +101,9 @@ def told_worths(row, rest):
     return worths[::-1]
 
 
-def orders_of(count):
-    """All orders of so many indexes, ascending."""
-    orders = [()]
-    for _ in range(count):
-        orders = [(*order, index) for order in orders for index in range(count) if index not in order]
-    return orders
+def worths_one_ahead(row, worths):
+    """The worths of all orders that come of those with told worths by one more draw ahead of them."""
+    return {
+        (index, *order): raised_mean(row[index], worths[order])
+        for order in worths for index in range(len(row)) if index not in order
+    }
