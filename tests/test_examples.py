@@ -45,6 +45,28 @@ EXAMPLES = (
 >>> [greatest_trap((("a", "ours", (("a", (0, 1)), ("x", (0, 1)))), ("x", "end", (0, 1)))), greatest_trap(duel.rows), greatest_trap(street.rows), street.arrows("b"), street.number("y"), street.with_number("x", (5, 2)).number("x")]
 [('a',), ('a', 'b'), (), ('a', 'y'), (3, 1), (5, 2)]
 """),
+    ("worths.py", r"""
+>>> from placeworths.worths import best_arrows, held, plan, turned, within, worth, worths
+>>> pick = Web((("a", "ours", (("b", (0, 1)), ("z", (1, 1)))), ("b", "chance", (("y", (1, 2)), ("z", (1, 2)))), ("y", "end", (0, 1)), ("z", "end", (4, 1))))
+>>> [worths(pick), worth(pick, "a"), best_arrows(pick, "a"), best_arrows(pick, "b"), plan(pick, "ours"), plan(pick, "theirs"), held(pick, "ours", (("a", "b"),)), within(pick, 1, (0, 1)), within(pick, 0, (1, 2))]
+[((3, 1), (2, 1), (0, 1), (4, 1)), (3, 1), ('z',), (), (('a', 'z'),), (), ((2, 1), (2, 1), (0, 1), (4, 1)), ((3, 1), (2, 1), (0, 1), (4, 1)), ((1, 2), (1, 2), (0, 1), (4, 1))]
+>>> flip = Web((("a", "coin", ("b", "z")), ("b", "coin", ("a", "y")), ("y", "end", (0, 1)), ("z", "end", (1, 1))))
+>>> [worths(flip), best_arrows(flip, "a"), worths(turned(pick)), worths(turned(flip))]
+[((2, 3), (1, 3), (0, 1), (1, 1)), (('z',), ('b',)), ((-3, 1), (-2, 1), (0, 1), (-4, 1)), ((-2, 3), (-1, 3), (0, 1), (-1, 1))]
+"""),
+    ("chains.py", r"""
+>>> from placeworths.chains import ends_from, keeps, met_chance, steps_from, visits
+>>> drift = Web((("a", "chance", (("a", (1, 3)), ("b", (1, 3)), ("y", (1, 3)))), ("b", "chance", (("a", (1, 2)), ("z", (1, 2)))), ("y", "end", (0, 1)), ("z", "end", (1, 1))))
+>>> [ends_from(drift, "a"), ends_from(drift, "z"), steps_from(drift, "a"), steps_from(drift, "b"), visits(drift, "a"), met_chance(drift, "a", "b"), met_chance(drift, "b", "a"), worths(drift), keeps(drift, worths(drift)), keeps(drift, ((1, 1), (1, 1), (1, 1), (1, 1)))]
+[(('y', (2, 3)), ('z', (1, 3))), (('z', (1, 1)),), (8, 3), (7, 3), (('a', (2, 1)), ('b', (2, 3))), (1, 2), (1, 2), ((1, 3), (2, 3), (0, 1), (1, 1)), True, True]
+"""),
+    ("bids.py", r"""
+>>> from placeworths.bids import is_safe, need, needs, safe_range, step, winner
+>>> [needs(duel), step(duel, "a"), winner(duel, "b", (1, 2)), winner(duel, "a", (2, 3)), safe_range(duel, "b", (1, 2), "first", "y")]
+[((2, 3), (1, 3), (1, 1), (0, 1)), (1, 3), 'first', None, ((1, 6), (1, 2))]
+>>> [is_safe(duel, "b", (1, 2), "first", "y", (1, 3)), is_safe(duel, "b", (1, 2), "first", "y", (1, 8)), is_safe(duel, "a", (1, 2), "second", "x", (1, 3)), safe_range(duel, "a", (1, 2), "second", "x")]
+[True, False, True, ((1, 6), (1, 2))]
+"""),
 )
 
 

@@ -26,6 +26,18 @@ FUNCTIONS = {
         "paid_mean": "company floor", "better_box": "box other", "floor_against": "box other",
     },
     "webs": {"greatest_trap": "rows"},
+    "worths": {
+        "worths": "web", "worth": "web place", "best_arrows": "web place", "plan": "web side", "held": "web side plan",
+        "within": "web moves rest", "turned": "web",
+    },
+    "chains": {
+        "ends_from": "web place", "steps_from": "web place", "visits": "web place", "met_chance": "web place other",
+        "keeps": "web numbers",
+    },
+    "bids": {
+        "need": "web place", "needs": "web", "step": "web place", "winner": "web place share",
+        "safe_range": "web place share side to", "is_safe": "web place share side to bid",
+    },
 }
 CLASSES = {
     "webs": {
