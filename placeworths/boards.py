@@ -6,7 +6,7 @@ staying as they are: so, beginning with ways that lead to ends, they lead to end
 
 from placeworths.equations import solved
 from placeworths.exact import ZERO, multiplied, plus
-from placeworths.mixes import HALF, Arrows, arrow_mixes, halves, is_better, mix_value
+from placeworths.mixes import Arrows, arrow_mixes, halves, is_better, mix_value
 from placeworths.webrows import targets
 
 SURE = ""
@@ -78,18 +78,6 @@ class Board:
             told, low = self.answered(high, low)
             better = bettered(self.highs, high, told, True)
         return (told, high, low)
-
-    def one_more(self, values):
-        """What the rule makes of the values: those with one move more."""
-        told = dict(self.numbers)
-        for place in self.chances:
-            told[place] = mix_value(self.chances[place], values)
-        for place in self.highs:
-            told[place] = mix_value(self.highs[place].best(values, True), values)
-        for place in self.lows:
-            least = mix_value(self.lows[place].best(values, False), values)
-            told[place] = multiplied(plus(told[place], least), HALF) if place in self.highs else least
-        return told
 
 
 def bettered(options, choice, values, upward):

@@ -1,6 +1,7 @@
 """The errors that are raised where what should be a web is none, or where a web is not of a kind."""
 
-from placeworths.errors import InvalidPlace, NotAChain, NotAWeb, NotCoins, NotParts
+from placeworths.checks import check_place
+from placeworths.errors import InvalidPlace, NotAChain, NotAWeb, NotCoins, NotParts, TooMixed
 from placeworths.webs import Web
 
 
@@ -15,6 +16,21 @@ def check_chain(value):
     check_web(value)
     if not all([row[1] in ("end", "chance") for row in value.rows]):
         raise NotAChain()
+
+
+def check_unmixed(value):
+    """Raises NotAWeb if the value is no web, TooMixed if it has a coin, or both ours and theirs."""
+    check_web(value)
+    kinds = [row[1] for row in value.rows]
+    if "coin" in kinds or "ours" in kinds and "theirs" in kinds:
+        raise TooMixed()
+
+
+def check_end(web, value):
+    """Raises UnknownPlace if the value is no place of the web, InvalidPlace if it is one but no end."""
+    check_place(value, web.places)
+    if value not in web.ends:
+        raise InvalidPlace(value)
 
 
 def check_coins(web):

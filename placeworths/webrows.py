@@ -17,6 +17,11 @@ def is_place(value):
 
 def are_rows(value):
     """Whether the value has the form of rows of a web, with or without traps."""
+    return are_rows_of(value, is_what)
+
+
+def are_rows_of(value, is_form):
+    """Whether the value has rows of ascending places, for which the function tells whether the others have a form."""
     if not isinstance(value, tuple) or not 1 <= len(value) <= MOST_PLACES:
         return False
     for row in value:
@@ -25,7 +30,7 @@ def are_rows(value):
     places = [row[0] for row in value]
     if not is_ascending(places):
         return False
-    return all([is_what(row[1], row[2], places) for row in value])
+    return all([is_form(row[1], row[2], places) for row in value])
 
 
 def is_ascending(words):
@@ -70,13 +75,23 @@ def targets(row):
     return tuple([arrow[0] for arrow in what])
 
 
+def row_of(rows, place):
+    """The row of a place that is there."""
+    return [row for row in rows if row[0] == place][0]
+
+
 def trap_of(rows):
     """The ascending tuple of the places of the greatest trap, () if there is none."""
+    return greatest_lot(rows, can_stay)
+
+
+def greatest_lot(rows, stays):
+    """The ascending tuple of the most inner places of which the function tells that each can stay among them."""
     lot = [row[0] for row in rows if row[1] != "end"]
     size = len(rows) + 1
     while len(lot) < size:
         size = len(lot)
-        lot = [row[0] for row in rows if row[0] in lot and can_stay(row, lot)]
+        lot = [row[0] for row in rows if row[0] in lot and stays(row, lot)]
     return tuple(lot)
 
 

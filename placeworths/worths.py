@@ -1,13 +1,14 @@
 """Worths of webs, best arrows, plans that are held, worths within moves."""
 
-from placeworths.boards import rows_board, rows_worths
+from placeworths.boards import rows_worths
 from placeworths.checks import check_number, check_place
 from placeworths.errors import InvalidNumber, InvalidPlan, InvalidSide
 from placeworths.exact import is_integer, negative
 from placeworths.limits import MOST_MOVES
 from placeworths.mixes import arrow_mixes, is_better, mix_value
+from placeworths.moves import values_within
 from placeworths.webchecks import check_web
-from placeworths.webrows import targets
+from placeworths.webrows import row_of, targets
 from placeworths.webs import Web
 
 OTHER_SIDE = {"ours": "theirs", "theirs": "ours"}
@@ -65,11 +66,7 @@ def within(web, moves, rest):
     if not is_integer(moves) or not 0 <= moves <= MOST_MOVES:
         raise InvalidNumber(moves)
     check_number(rest)
-    board = rows_board(web.rows)
-    values = {place: what if kind == "end" else rest for place, kind, what in web.rows}
-    for _ in range(moves):
-        values = board.one_more(values)
-    return in_place_order(web, values)
+    return in_place_order(web, values_within(web.rows, moves, rest))
 
 
 def turned(web):
@@ -87,11 +84,6 @@ def check_side(value):
 def in_place_order(web, values):
     """The tuple of the values of a web's places, in their order."""
     return tuple([values[place] for place in web.places])
-
-
-def row_of(rows, place):
-    """The row of a place."""
-    return [row for row in rows if row[0] == place][0]
 
 
 def best_targets(row, values, upward):

@@ -67,6 +67,34 @@ EXAMPLES = (
 >>> [is_safe(duel, "b", (1, 2), "first", "y", (1, 3)), is_safe(duel, "b", (1, 2), "first", "y", (1, 8)), is_safe(duel, "a", (1, 2), "second", "x", (1, 3)), safe_range(duel, "a", (1, 2), "second", "x")]
 [True, False, True, ((1, 6), (1, 2))]
 """),
+    ("lines.py", r"""
+>>> from placeworths.lines import at, even_at, line
+>>> [line(pick, "a", "y"), line(pick, "b", "y"), line(pick, "a", "z"), line(turned(pick), "a", "z"), at(line(pick, "a", "y"), (3, 1)), at(line(pick, "a", "y"), (-9, 1))]
+[((None, (0, 1), (3, 1)), ((2, 1), (1, 2), (2, 1))), ((None, (1, 2), (2, 1)),), ((None, (1, 2), (0, 1)), ((2, 1), (1, 1), (-1, 1))), ((None, (1, 1), (1, 1)), ((-2, 1), (1, 2), (0, 1))), (7, 2), (3, 1)]
+>>> [even_at(pick, "a", "b", "y"), even_at(pick, "b", "y", "y"), even_at(pick, "y", "z", "y")]
+[None, ((4, 1),), ((4, 1),)]
+"""),
+    ("loose.py", r"""
+>>> from placeworths.loose import Loose, greatest, greatest_member, is_member, least, least_member, sure_arrows
+>>> span = Loose((("a", "chance", (("y", (1, 4), (1, 2)), ("z", (1, 2), (3, 4)))), ("o", "ours", (("a", (0, 1)), ("y", (0, 1)))), ("y", "end", ((0, 1), (1, 1))), ("z", "end", ((2, 1), (3, 1)))))
+>>> [least(span), greatest(span), sure_arrows(span, "o"), sure_arrows(span, "a"), is_member(span, least_member(span)), worths(greatest_member(span)) == greatest(span)]
+[((1, 1), (1, 1), (0, 1), (2, 1)), ((5, 2), (5, 2), (1, 1), (3, 1)), ('a',), (), True, True]
+"""),
+    ("folds.py", r"""
+>>> from placeworths.folds import coarsest, folded, grafted, is_fold, struck
+>>> twin = Web((("a", "chance", (("b", (1, 2)), ("c", (1, 2)))), ("b", "ours", (("y", (0, 1)), ("z", (1, 1)))), ("c", "ours", (("y", (0, 1)), ("z", (1, 1)))), ("y", "end", (0, 1)), ("z", "end", (3, 1))))
+>>> [coarsest(twin), folded(twin).rows[0], worths(folded(twin)), is_fold(twin, (("a",), ("b",), ("c",), ("y",), ("z",))), is_fold(twin, (("a",), ("b", "c"), ("y", "z"))), coarsest(drift)]
+[(('a',), ('b', 'c'), ('y',), ('z',)), ('a', 'chance', (('b', (1, 1)),)), ((2, 1), (2, 1), (0, 1), (3, 1)), True, False, (('a',), ('b',), ('y',), ('z',))]
+>>> [struck(drift, "b").rows[0], struck(drift, "a").rows[0], worth(struck(drift, "a"), "b"), worths(grafted(pick, "y", Web((("m", "ours", (("n", (0, 1)),)), ("n", "end", (5, 1)))), "m"))]
+[('a', 'chance', (('a', (1, 2)), ('y', (1, 3)), ('z', (1, 6)))), ('b', 'chance', (('b', (1, 4)), ('y', (1, 4)), ('z', (1, 2)))), (2, 3), ((9, 2), (9, 2), (5, 1), (5, 1), (4, 1))]
+"""),
+    ("unknown.py", r"""
+>>> from placeworths.unknown import Unknown, asks, filled, ranges, sure_best, sure_order
+>>> fork = Web((("a", "ours", (("x", (0, 1)), ("y", (0, 1)))), ("x", "end", (0, 1)), ("y", "end", (3, 1))))
+>>> lost = Unknown(fork, (("x", ((0, 1), (2, 1), (5, 1))),))
+>>> [len(lost), filled(lost, ((5, 1),)).number("x"), ranges(lost), sure_best(lost), sure_order(lost), asks(lost, "a")]
+[3, (5, 1), (('a', (3, 1), (5, 1)), ('x', (0, 1), (5, 1)), ('y', (3, 1), (3, 1))), (('a', ()),), (('a', 'x'), ('a', 'y')), 1]
+"""),
 )
 
 

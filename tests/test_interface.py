@@ -38,6 +38,19 @@ FUNCTIONS = {
         "need": "web place", "needs": "web", "step": "web place", "winner": "web place share",
         "safe_range": "web place share side to", "is_safe": "web place share side to bid",
     },
+    "lines": {"line": "web place end", "at": "pieces number", "even_at": "web place other end"},
+    "loose": {
+        "least": "loose", "greatest": "loose", "least_member": "loose", "greatest_member": "loose",
+        "is_member": "loose web", "sure_arrows": "loose place",
+    },
+    "folds": {
+        "coarsest": "web", "is_fold": "web lots", "folded": "web", "struck": "web place",
+        "grafted": "web end other start",
+    },
+    "unknown": {
+        "filled": "unknown numbers", "ranges": "unknown", "sure_best": "unknown", "sure_order": "unknown",
+        "asks": "unknown place",
+    },
 }
 CLASSES = {
     "webs": {
@@ -46,8 +59,13 @@ CLASSES = {
             "with_number": "self place number", "__eq__": "self other", "__str__": "self",
         },
     },
+    "loose": {"Loose": {"__init__": "self rows", "__eq__": "self other"}},
+    "unknown": {"Unknown": {"__init__": "self web choices", "__len__": "self", "__eq__": "self other"}},
 }
-PROPERTIES = {"webs": {"Web": "rows places ends text is_ending is_coins"}}
+PROPERTIES = {
+    "webs": {"Web": "rows places ends text is_ending is_coins"}, "loose": {"Loose": "rows places text"},
+    "unknown": {"Unknown": "web choices"},
+}
 
 
 class Interface(unittest.TestCase):
