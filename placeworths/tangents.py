@@ -17,6 +17,7 @@ def bent_lines(rows, place, end):
 
 def lines_between(rows, place, end, first, last):
     """The list of the lines from the first one to the last one, both of which touch the worth."""
+    # For an end, as for a place that cannot do other than lead on, both are the one line there is.
     if first == last:
         return [first]
     number = meeting(first, last)
@@ -28,15 +29,13 @@ def lines_between(rows, place, end, first, last):
 
 
 def touching_line(rows, place, end, number):
-    """The line of plans that are best if the end has this number."""
+    """The line of plans that are best if the end has this number, for an inner place."""
     high, low = rows_start(rows)
     board = rows_board([(end, "end", number) if row[0] == end else row for row in rows])
     _, high, low = board.settled(high, low)
     others = {one: board.numbers[one] for one in board.numbers if one != end}
     parts = Board(others, board.chances, board.highs, board.lows).parts(high, low)
-    if place in parts:
-        return (parts[place].get(end, ZERO), parts[place][SURE])
-    return (ONE, ZERO) if place == end else (ZERO, others[place])
+    return (parts[place].get(end, ZERO), parts[place][SURE])
 
 
 def far_line(rows, place, end, sign):
