@@ -46,7 +46,7 @@ def plan(web, side):
     check_web(web)
     check_side(side)
     values = rows_worths(web.rows)
-    return tuple([(row[0], best_targets(row, values, side == "ours")[0]) for row in web.rows if row[1] == side])
+    return tuple([(row[0], first_best(row, values)) for row in web.rows if row[1] == side])
 
 
 def held(web, side, plan):
@@ -94,6 +94,13 @@ def best_targets(row, values, upward):
         if not any([is_better(other, value, upward) for other in brought]):
             told.append(to)
     return tuple(told)
+
+
+def first_best(row, values):
+    """Where the first best arrow of ours, of theirs, leads; None at other places."""
+    if row[1] not in OTHER_SIDE:
+        return None
+    return best_targets(row, values, row[1] == "ours")[0]
 
 
 def is_plan(value, rows):

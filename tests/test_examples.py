@@ -95,6 +95,25 @@ EXAMPLES = (
 >>> [len(lost), filled(lost, ((5, 1),)).number("x"), ranges(lost), sure_best(lost), sure_order(lost), asks(lost, "a")]
 [3, (5, 1), (('a', (3, 1), (5, 1)), ('x', (0, 1), (5, 1)), ('y', (3, 1), (3, 1))), (('a', ()),), (('a', 'x'), ('a', 'y')), 1]
 """),
+    ("made.py", r"""
+>>> from placeworths.made import company_web, row_web
+>>> from placeworths.worths import worth
+>>> [worth(row_web((coin, third), (0, 1)), "a"), worth(company_web(((coin, (1, 1)),), (0, 1)), "a")]
+[(7, 2), (1, 1)]
+"""),
+    ("plays.py", r"""
+>>> from placeworths.plays import Play
+>>> play = Play(street, "a")
+>>> [play.advice, play.due, play.go("b"), play.paid, play.due, play.go("a"), play.go("b"), play.go("y"), play.is_over, play.due, play.trail, play.changes, play.undo(), play.place]
+['b', (2, 1), None, (1, 2), (2, 1), None, None, None, True, (2, 1), ('a', 'b', 'a', 'b', 'y'), 4, None, 'b']
+"""),
+    ("logs.py", r"""
+>>> from placeworths.logs import best_play, played
+>>> [played(street, "a", ("go b", "go y")).trail, best_play(street, "a", (0, 0, 1)).trail, best_play(street, "a", ()).trail, played(street, "a", ()).log, best_play(duel, "a", (0, 1)).place]
+[('a', 'b', 'y'), ('a', 'b', 'a', 'b', 'a', 'b', 'y'), ('a', 'b'), (), 'y']
+>>> played(street, "a", ("go b", "go x"))
+raises InvalidLog(index=1)
+"""),
 )
 
 

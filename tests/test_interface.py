@@ -51,6 +51,8 @@ FUNCTIONS = {
         "filled": "unknown numbers", "ranges": "unknown", "sure_best": "unknown", "sure_order": "unknown",
         "asks": "unknown place",
     },
+    "made": {"row_web": "row rest", "company_web": "company floor"},
+    "logs": {"played": "web place lines", "best_play": "web place turns"},
 }
 CLASSES = {
     "webs": {
@@ -61,10 +63,16 @@ CLASSES = {
     },
     "loose": {"Loose": {"__init__": "self rows", "__eq__": "self other"}},
     "unknown": {"Unknown": {"__init__": "self web choices", "__len__": "self", "__eq__": "self other"}},
+    "plays": {
+        "Play": {
+            "__init__": "self web place", "go": "self to", "undo": "self", "trial": "self", "tried": "self action",
+        },
+    },
 }
 PROPERTIES = {
     "webs": {"Web": "rows places ends text is_ending is_coins"}, "loose": {"Loose": "rows places text"},
     "unknown": {"Unknown": "web choices"},
+    "plays": {"Play": "web place paid is_over trail changes due advice log"},
 }
 
 
