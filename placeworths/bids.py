@@ -1,13 +1,12 @@
 """Bids: what shares two players need, who bid for each move in a coin web, and which bids are safe."""
 
 from placeworths.boards import rows_worths
-from placeworths.checks import check_place
+from placeworths.checks import check_place, is_share
 from placeworths.errors import AtAnEnd, InvalidBid, InvalidShare, InvalidSide
-from placeworths.exact import ONE, in_order, is_below, is_fraction, minus, multiplied
+from placeworths.exact import ONE, in_order, is_below, minus, multiplied
 from placeworths.mixes import HALF
 from placeworths.webchecks import check_arrow, check_coins, check_web
 
-MOST_BOTTOM = 10 ** 6
 FIRST = "first"
 SECOND = "second"
 
@@ -59,7 +58,7 @@ def is_safe(web, place, share, side, to, bid):
     """Whether the player's bid for this arrow is safe."""
     check_bidding(web, place, share, side, to)
     had = share if side == FIRST else minus(ONE, share)
-    if not is_part(bid) or is_below(had, bid):
+    if not is_share(bid) or is_below(had, bid):
         raise InvalidBid(bid)
     check_coins(web)
     told = range_of(web, place, share, side, to)
@@ -79,13 +78,8 @@ def check_bidding(web, place, share, side, to):
 
 def check_share(value):
     """Raises InvalidShare if the value is no share."""
-    if not is_part(value):
+    if not is_share(value):
         raise InvalidShare(value)
-
-
-def is_part(value):
-    """Whether the value is a number from 0 to 1 with a bottom that is not too great."""
-    return is_fraction(value) and 0 <= value[0] <= value[1] <= MOST_BOTTOM
 
 
 def needs_of(web):

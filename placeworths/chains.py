@@ -1,9 +1,9 @@
 """Chains: webs of ends and chance places alone, what they come to, and how long this takes."""
 
-from placeworths.checks import check_place
+from placeworths.checks import are_numbers, check_place
 from placeworths.equations import solved
 from placeworths.errors import InvalidNumber
-from placeworths.exact import ONE, ZERO, is_fraction, multiplied, plus, total
+from placeworths.exact import ONE, ZERO, multiplied, plus, total
 from placeworths.mixes import mix_value
 from placeworths.webchecks import check_chain
 
@@ -56,7 +56,7 @@ def met_chance(web, place, other):
 def keeps(web, numbers):
     """Whether these numbers of all places give each chance place the mean of those of its arrows' places."""
     check_chain(web)
-    if not is_number_row(numbers, len(web.places)):
+    if not are_numbers(numbers, len(web.places)):
         raise InvalidNumber(numbers)
     values = dict(zip(web.places, numbers))
     return all([mix_value((what, ZERO), values) == values[place] for place, _, what in chance_rows(web)])
@@ -79,10 +79,3 @@ def mean_visits(web, start):
         equations[start][BEGIN] = ONE
     told = solved(equations)
     return {place: told[place].get(BEGIN, ZERO) for place in told}
-
-
-def is_number_row(value, count):
-    """Whether the value is a tuple of so many numbers."""
-    if not isinstance(value, tuple) or len(value) != count:
-        return False
-    return all([is_fraction(number) for number in value])

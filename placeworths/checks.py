@@ -6,6 +6,8 @@ from placeworths.errors import (
 from placeworths.exact import are_ascending, are_shares, is_fraction, is_integer
 from placeworths.limits import MOST_DRAWS, MOST_PAIRS
 
+MOST_BOTTOM = 10 ** 6
+
 
 def are_fraction_pairs(value):
     """Whether all that a tuple has are pairs of fractions."""
@@ -50,6 +52,23 @@ def is_company(value):
     if not isinstance(value, tuple) or len(value) > MOST_DRAWS:
         return False
     return all([is_box(box) for box in value])
+
+
+def is_part(value):
+    """Whether the value is a number from 0 to 1."""
+    return is_fraction(value) and 0 <= value[0] <= value[1]
+
+
+def is_share(value):
+    """Whether the value is a number from 0 to 1 with a bottom that is not too great."""
+    return is_part(value) and value[1] <= MOST_BOTTOM
+
+
+def are_numbers(value, count):
+    """Whether the value is a tuple of so many numbers."""
+    if not isinstance(value, tuple) or len(value) != count:
+        return False
+    return all([is_fraction(number) for number in value])
 
 
 def check_draw(value):

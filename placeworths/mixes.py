@@ -3,7 +3,7 @@
 What a mix brings is its gain and the worths of its places, each times its weight.
 """
 
-from placeworths.exact import ONE, ZERO, is_below, multiplied, negative, plus
+from placeworths.exact import ONE, ZERO, in_order, is_below, multiplied, negative, plus
 
 HALF = (1, 2)
 
@@ -38,6 +38,19 @@ def arrow_mixes(row):
 def is_better(value, other, upward):
     """Whether the first value is above the second one, or below it where the least one is wanted."""
     return is_below(other, value) if upward else is_below(value, other)
+
+
+def ruled(row, values):
+    """What the rule tells for the place of a row, by these values of all places."""
+    _, kind, what = row
+    if kind == "end":
+        return what
+    if kind == "chance":
+        return mix_value((what, ZERO), values)
+    brought = in_order([mix_value(mix, values) for mix in arrow_mixes(row)])
+    if kind == "coin":
+        return multiplied(plus(brought[0], brought[-1]), HALF)
+    return brought[-1] if kind == "ours" else brought[0]
 
 
 class Arrows:

@@ -1,6 +1,6 @@
 """The errors that are raised where what should be a web is none, or where a web is not of a kind."""
 
-from placeworths.checks import check_place
+from placeworths.checks import check_place, is_part
 from placeworths.errors import InvalidPlace, NotAChain, NotAWeb, NotCoins, NotParts, TooMixed
 from placeworths.webs import Web
 
@@ -33,12 +33,21 @@ def check_end(web, value):
         raise InvalidPlace(value)
 
 
+def are_coins(rows):
+    """Whether all inner places of a web's rows are coins."""
+    return all([row[1] in ("end", "coin") for row in rows])
+
+
+def are_parts(rows):
+    """Whether all ends of a web's rows have numbers from 0 to 1."""
+    return all([is_part(what) for _, kind, what in rows if kind == "end"])
+
+
 def check_coins(web):
     """Raises NotCoins if a web has an inner place that is no coin, NotParts if an end's number is not from 0 to 1."""
-    if not all([row[1] in ("end", "coin") for row in web.rows]):
+    if not are_coins(web.rows):
         raise NotCoins()
-    numbers = [what for _, kind, what in web.rows if kind == "end"]
-    if not all([0 <= top <= bottom for top, bottom in numbers]):
+    if not are_parts(web.rows):
         raise NotParts()
 
 

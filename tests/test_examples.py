@@ -114,6 +114,30 @@ EXAMPLES = (
 >>> played(street, "a", ("go b", "go x"))
 raises InvalidLog(index=1)
 """),
+    ("books.py", r"""
+>>> from placeworths.books import Book
+>>> book = Book()
+>>> done = book.do_all(("set", "s", street), ("claim", ("between", "s", "a", (2, 1), (2, 1))), ("claim", ("best", "s", "a", "b")), ("claim", ("above", "s", "b", "a")))
+>>> [done, book.names, len(book.claims), book.changes, book.undo(), book.claims[-1][0]]
+[4, ('s',), 3, 4, None, 'best']
+>>> book.do_all(("set", "s", street.with_number("y", (1, 1))))
+raises Broken(index=0)
+"""),
+    ("certificates.py", r"""
+>>> from placeworths.certificates import certify_at_least, certify_at_most, certify_strike, certify_worth
+>>> from placeworths.checker import accepts
+>>> papers = [certify_worth(street, "a"), certify_at_least(street, "b", (2, 1)), certify_strike(wide), certify_worth(duel, "a")]
+>>> [papers[0][0][3], papers[0][1], papers[1][0][0], papers[2][0][2], papers[3][1], certify_at_most(street, "a", (1, 1))]
+[(2, 1), ((2, 1), (5, 2), (1, 1), (3, 1)), 'at least', (8, 1), ((1, 3), (2, 3), (0, 1), (1, 1)), None]
+>>> [accepts(papers[0][0], papers[0][1]), accepts(papers[1][0], papers[1][1]), accepts(papers[2][0], ()), accepts(("worth", street.rows, "a", (3, 1)), ((3, 1), (3, 1), (1, 1), (3, 1))), accepts(("trap", duel.rows, ("a", "b")), ())]
+[True, True, True, False, True]
+"""),
+    ("console.py", r"""
+>>> from placeworths.console import Console
+>>> console = Console()
+>>> [console.say("s = a ours b:1/2 x:0/1 / b chance a:1/2 y:1/2 / x end 1/1 / y end 3/1"), console.say("s worth a"), console.say("s worths"), console.say("s advice a"), console.say("s between a 2/1 5/2"), console.say("undo"), console.say("l = a coin b x / b coin a y / x end 0/1 / y end 1/1"), console.say("l need b"), console.say("l wins b 1/2")]
+['ending', '2/1', '2/1 5/2 1/1 3/1', 'b', 'ok', 'ok', 'coins', '1/3', 'ok']
+"""),
 )
 
 

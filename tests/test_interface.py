@@ -53,6 +53,11 @@ FUNCTIONS = {
     },
     "made": {"row_web": "row rest", "company_web": "company floor"},
     "logs": {"played": "web place lines", "best_play": "web place turns"},
+    "checker": {"accepts": "claim paper"},
+    "certificates": {
+        "certify_worth": "web place", "certify_at_least": "web place number", "certify_at_most": "web place number",
+        "certify_draws": "draw other", "certify_stop": "row rest", "certify_strike": "box", "certify_ends": "web place",
+    },
 }
 CLASSES = {
     "webs": {
@@ -68,11 +73,19 @@ CLASSES = {
             "__init__": "self web place", "go": "self to", "undo": "self", "trial": "self", "tried": "self action",
         },
     },
+    "books": {
+        "Book": {
+            "__init__": "self", "drop": "self name", "claim": "self claim", "lift": "self index", "undo": "self",
+            "trial": "self", "tried": "self action", "__len__": "self",
+        },
+    },
+    "console": {"Console": {"__init__": "self", "say": "self line"}},
 }
 PROPERTIES = {
     "webs": {"Web": "rows places ends text is_ending is_coins"}, "loose": {"Loose": "rows places text"},
     "unknown": {"Unknown": "web choices"},
     "plays": {"Play": "web place paid is_over trail changes due advice log"},
+    "books": {"Book": "names claims changes"}, "console": {"Console": "book"},
 }
 
 
@@ -107,6 +120,22 @@ class Interface(unittest.TestCase):
             for word, properties in classes.items():
                 for one in properties.split():
                     self.assertIsInstance(vars(getattr(module, word))[one], property)
+
+    def test_the_signs_of_a_book_are_methods_of_its_class(self):
+        book = vars(importlib.import_module("placeworths.books").Book)
+        for name, count in (("__getitem__", 2), ("__setitem__", 3), ("__contains__", 2)):
+            self.assertEqual(len(inspect.signature(book[name]).parameters), count)
+
+    def test_several_deeds_and_a_watch_by_name(self):
+        told = inspect.signature(vars(importlib.import_module("placeworths.books").Book)["do_all"]).parameters
+        self.assertEqual(list(told), ["self", "deeds", "watch"])
+        self.assertIs(told["deeds"].kind, inspect.Parameter.VAR_POSITIONAL)
+        self.assertIs(told["watch"].kind, inspect.Parameter.KEYWORD_ONLY)
+        self.assertIsNone(told["watch"].default)
+
+    def test_each_module_of_the_document_is_there(self):
+        for name in (*FUNCTIONS, *CLASSES, "limits", "errors"):
+            self.assertEqual(importlib.import_module(f"placeworths.{name}").__name__, f"placeworths.{name}")
 
     def test_a_web_can_be_read_off_its_class(self):
         web = importlib.import_module("placeworths.webs").Web

@@ -36,6 +36,10 @@ BARRED_WORDS = re.compile(
 BARRED_STARTS = (
     "_wall", "_pe_", "_dcw_", "_enum_", "_cm_", "_twin_re_", "_lay_", "_law_", "_stub_", "_sre", "_WallAttr",
 )
+MODIFIERS = set("append extend insert pop remove clear update setdefault reverse sort add discard".split())
+MAKERS = (ast.List, ast.Dict, ast.ListComp)
+# These may change what they belong to; all other methods with two underscores are signs.
+CHANGING = {"__init__", "__setitem__", "__enter__", "__exit__", "__call__", "__iter__"}
 DUNDERS = set(
     "__init__ __eq__ __repr__ __str__ __len__ __enter__ __exit__ __call__ __iter__ __bool__ __contains__ "
     "__getitem__ __setitem__".split()
@@ -95,6 +99,78 @@ class Source:
 
 
 SOURCES = [Source(path) for path in FILES]
+
+
+def functions_by_name():
+    """All functions and methods of the package, lists by their names."""
+    told = {}
+    for source in SOURCES:
+        for node in source.nodes:
+            if isinstance(node, ast.FunctionDef):
+                told.setdefault(node.name, []).append(node)
+    return told
+
+
+def methods_of_classes():
+    """Pairs of a class and the list of its methods."""
+    for source in SOURCES:
+        for node in source.tree.body:
+            if isinstance(node, ast.ClassDef):
+                yield node, [one for one in node.body if isinstance(one, ast.FunctionDef)]
+
+
+def is_property(node):
+    return any(isinstance(one, ast.Name) and one.id == "property" for one in node.decorator_list)
+
+
+def quiet_functions():
+    """What properties and signs run, with all that these call: dicts from ids to functions."""
+    known = functions_by_name()
+    left = [one for _, methods in methods_of_classes() for one in methods
+            if is_property(one) or one.name.startswith("__") and one.name not in CHANGING]
+    told = {}
+    while left:
+        node = left.pop()
+        if id(node) in told:
+            continue
+        told[id(node)] = node
+        for one in ast.walk(node):
+            if isinstance(one, ast.Call):
+                name = one.func.id if isinstance(one.func, ast.Name) else one.func.attr
+                left += known.get(name, [])
+            elif isinstance(one, ast.Attribute):
+                left += [other for other in known.get(one.attr, []) if is_property(other)]
+    return list(told.values())
+
+
+def own_lists(node):
+    """The local variables of a function that are assigned nothing but lists and dicts made there."""
+    made, other = set(), {one.arg for one in node.args.args}
+    for one in ast.walk(node):
+        if isinstance(one, ast.Assign):
+            for target in one.targets:
+                for name in ast.walk(target):
+                    if isinstance(name, ast.Name) and isinstance(name.ctx, ast.Store):
+                        call = isinstance(one.value, ast.Call) and isinstance(one.value.func, ast.Name)
+                        good = isinstance(one.value, MAKERS) or call and one.value.func.id in ("list", "dict", "sorted")
+                        (made if good and target is name else other).add(name.id)
+    return made - other
+
+
+def assigned_names(node):
+    """The names that a function or a comprehension assigns itself."""
+    if isinstance(node, (ast.ListComp, ast.DictComp, ast.SetComp)):
+        parts = [one.target for one in node.generators]
+        return {one.id for part in parts for one in ast.walk(part) if isinstance(one, ast.Name)}
+    told, left = {one.arg for one in node.args.args}, list(node.body)
+    while left:
+        part = left.pop()
+        if isinstance(part, (ast.ListComp, ast.DictComp, ast.SetComp, ast.Lambda, ast.FunctionDef)):
+            continue
+        if isinstance(part, ast.Name) and isinstance(part.ctx, ast.Store):
+            told.add(part.id)
+        left += list(ast.iter_child_nodes(part))
+    return told
 
 
 class Language(unittest.TestCase):
@@ -246,6 +322,93 @@ class Language(unittest.TestCase):
         for _, node, where in self.each(ast.BinOp):
             if isinstance(node.op, ast.Pow):
                 self.assertTrue(isinstance(node.right, ast.Constant) and 0 <= node.right.value <= 64, where)
+
+    def test_l5_l28_properties_and_signs_change_nothing(self):
+        found = quiet_functions()
+        self.assertTrue(len(found) > 20)
+        for node in found:
+            own = own_lists(node)
+            given = {one.arg for one in node.args.args}
+            for one in ast.walk(node):
+                where = f"{node.name}:{getattr(one, 'lineno', 0)}"
+                targets = getattr(one, "targets", [getattr(one, "target", None)])
+                for target in [part for target in targets if target is not None for part in ast.walk(target)]:
+                    stored = isinstance(getattr(target, "ctx", None), ast.Store)
+                    self.assertFalse(isinstance(target, ast.Attribute) and stored, where)
+                    if isinstance(target, ast.Subscript) and stored:
+                        self.assertTrue(isinstance(target.value, ast.Name) and target.value.id in own, where)
+                self.assertNotIsInstance(one, (ast.Delete, ast.Nonlocal), where)
+                if isinstance(one, ast.AugAssign):
+                    self.assertTrue(isinstance(one.value, ast.Constant) and isinstance(one.target, ast.Name), where)
+                if isinstance(one, ast.Call) and isinstance(one.func, ast.Name):
+                    self.assertNotIn(one.func.id, given, where)
+                if isinstance(one, ast.Call) and isinstance(one.func, ast.Attribute) and one.func.attr in MODIFIERS:
+                    self.assertTrue(isinstance(one.func.value, ast.Name) and one.func.value.id in own, where)
+
+    def test_l5_a_class_with_an_index_is_not_iterated_over(self):
+        indexed = 0
+        for _, methods in methods_of_classes():
+            names = [one.name for one in methods]
+            if "__getitem__" in names:
+                indexed += 1
+                walked = methods[names.index("__iter__")].body
+                self.assertTrue(len(walked) == 1 and isinstance(walked[0], ast.Raise))
+            for name, size in (("__getitem__", 2), ("__setitem__", 3), ("__contains__", 2), ("__len__", 1), ("__eq__", 2)):
+                for one in methods:
+                    if one.name == name:
+                        self.assertEqual(len(one.args.args), size, name)
+        self.assertEqual(indexed, 1)
+        for source in SOURCES:
+            self.assertIsNone(re.search(r"[(]type[)]|Meta|metaclass=", source.text), source.path.name)
+            self.assertNotIn(" keys", re.sub(r"[.]keys", "", source.text), source.path.name)
+
+    def test_l6_statements_with_their_ends(self):
+        simple = (ast.Name, ast.Attribute, ast.Constant)
+        ends = [(one, one.body) for _, methods in methods_of_classes() for one in methods if one.name == "__exit__"]
+        ends += [(node, node.finalbody) for _, node, _ in self.each(ast.Try) if node.finalbody]
+        self.assertEqual(len(ends), 2)
+        for node, rows in ends:
+            if isinstance(node, ast.FunctionDef):
+                self.assertEqual([one.arg for one in node.args.args], ["self", "kind", "value", "trace"])
+            for row in rows:
+                inner = row.body if isinstance(row, ast.If) else [row]
+                if isinstance(row, ast.If):
+                    self.assertTrue(isinstance(row.test, ast.Compare) and isinstance(row.test.ops[0], ast.IsNot))
+                for one in inner:
+                    self.assertIsInstance(one, ast.Assign)
+                    self.assertIsInstance(one.targets[0], ast.Attribute)
+                    self.assertIsInstance(one.value, simple)
+        for _, node, where in self.each(ast.With):
+            self.assertIsInstance(node.items[0].context_expr, (ast.Call, ast.Name, ast.Attribute), where)
+
+    def test_l5_l18_no_name_is_a_method_or_a_property_and_an_attribute(self):
+        stored = {node.attr for _, node, _ in self.each(ast.Attribute) if isinstance(node.ctx, ast.Store)}
+        read = {node.attr for _, node, _ in self.each(ast.Attribute) if isinstance(node.ctx, ast.Load)}
+        methods = {one.name for _, told in methods_of_classes() for one in told}
+        self.assertEqual(stored & methods, set())
+        self.assertEqual(read - stored - methods - METHODS, set())
+        plain = {one.name for _, told in methods_of_classes() for one in told if not is_property(one)}
+        shown = {one.name for _, told in methods_of_classes() for one in told if is_property(one)}
+        self.assertEqual(plain & shown, set())
+        self.assertEqual(shown & METHODS, set())
+
+    def test_l7_names_in_comprehensions(self):
+        comprehensions = (ast.ListComp, ast.DictComp, ast.SetComp)
+
+        def look(node, outer, within, where):
+            for child in ast.iter_child_nodes(node):
+                if isinstance(child, ast.FunctionDef):
+                    look(child, assigned_names(child), False, f"{where}:{child.name}")
+                elif isinstance(child, comprehensions):
+                    own = assigned_names(child)
+                    if within:
+                        self.assertEqual(own & outer, set(), f"{where}:{child.lineno}")
+                    look(child, outer | own, True, where)
+                else:
+                    look(child, outer, within, where)
+
+        for source in SOURCES:
+            look(source.tree, set(), False, source.path.name)
 
     def test_what_is_imported_is_used(self):
         for source in SOURCES:
